@@ -59,9 +59,6 @@ const hexDigits = "0123456789abcdef"
 
 // ReadPattern reads a text as a pattern, or tells where it goes wrong.
 func ReadPattern(text string) Pattern {
-	if len(text) > MaxPattern {
-		return Pattern{At: MaxPattern}
-	}
 	root, groups, at := readTree(text)
 	if root == nil {
 		return Pattern{At: at}
@@ -279,6 +276,9 @@ func readTree(text string) (root node, groups, at int) {
 			panic(caught)
 		}
 	}()
+	if len(text) > MaxPattern {
+		panic(fault{MaxPattern})
+	}
 	r := reader{cursor: cursor{text: text}}
 	root = r.pattern()
 	if !r.ended() {

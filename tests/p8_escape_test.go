@@ -115,3 +115,52 @@ func TestEscapeAtTheBound(t *testing.T) {
 		t.Errorf("%q", got)
 	}
 }
+
+// checkOnlyItself checks that a text is whole for its escape, and that none is that differs from it a little.
+func checkOnlyItself(t *testing.T, text string, others []byte) {
+	t.Helper()
+	pattern := impl.Escape(text)
+	want := impl.Match{Ok: true, To: len(text)}
+	if got := impl.Whole(pattern, text); !sameMatch(got, want) {
+		t.Errorf("%q: %v", text, got)
+	}
+	none := func(other string) {
+		t.Helper()
+		if got := impl.Whole(pattern, other); other != text && !sameMatch(got, impl.Match{}) {
+			t.Errorf("%q is whole for the escape of %q: %v", other, text, got)
+		}
+	}
+	for i := range len(text) + 1 {
+		for _, b := range others {
+			none(text[:i] + string([]byte{b}) + text[i:])
+			if i < len(text) {
+				none(text[:i] + string([]byte{b}) + text[i+1:])
+			}
+		}
+		none(text[:i])
+		none(text[i:])
+		none(text[:i] + text)
+	}
+}
+
+func TestOnlyTheTextIsWholeForItsEscape(t *testing.T) {
+	every := make([]byte, 256)
+	for b := range every {
+		every[b] = byte(b)
+	}
+	checkOnlyItself(t, "", every)
+	for b := range 256 {
+		checkOnlyItself(t, string(every[b:b+1]), every)
+	}
+	c := chooser{88}
+	for range 500 {
+		text := make([]byte, c.below(29))
+		for i := range text {
+			text[i] = byte(c.below(256))
+		}
+		checkOnlyItself(t, string(text), []byte{0, '\n', 'a', '\\', '.', byte(c.below(256))})
+	}
+	for _, text := range []string{"(a|b)*[^c-d]$", "\\d\\x41a{2,}?", "^$", "aaaaaaaaaaaaaaaaaaaaaaaaaaaa", "\x00\xff\n\r\t \x7f.*+?()[]{}|\\^$-_,:"} {
+		checkOnlyItself(t, text, every)
+	}
+}
