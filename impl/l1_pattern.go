@@ -258,6 +258,15 @@ func (c *cursor) next() byte {
 	return b
 }
 
+func (c *cursor) takeHexDigit() (byte, bool) {
+	for i := range len(hexDigits) {
+		if c.take(hexDigits[i]) {
+			return byte(i), true
+		}
+	}
+	return 0, false
+}
+
 // reader reads a pattern; groups are those begun so far, deep those that are open.
 type reader struct {
 	cursor
@@ -460,15 +469,11 @@ func (r *reader) escape() byteSet {
 }
 
 func (r *reader) hexDigit() byte {
-	at := r.at
-	b := r.next()
-	switch {
-	case isDigit(b):
-		return b - '0'
-	case 'a' <= b && b <= 'f':
-		return b - 'a' + 10
+	digit, ok := r.takeHexDigit()
+	if !ok {
+		panic(fault{r.at})
 	}
-	panic(fault{at})
+	return digit
 }
 
 func isDigit(b byte) bool { return '0' <= b && b <= '9' }
@@ -614,11 +619,15 @@ func appendCounts(out []byte, n repeatNode) []byte {
 func appendByte(out []byte, b byte) []byte {
 	switch {
 	case !isPrinted(b):
-		return append(out, '\\', 'x', hexDigits[b/16], hexDigits[b%16])
+		return appendNumber(out, b)
 	case isLetter(b), isDigit(b), b == '_', b == ',', b == ':', b == '=':
 		return append(out, b)
 	}
 	return append(out, '\\', b)
+}
+
+func appendNumber(out []byte, b byte) []byte {
+	return append(out, '\\', 'x', hexDigits[b/16], hexDigits[b%16])
 }
 
 func samePattern(a, b Pattern) bool {
